@@ -1,0 +1,1 @@
+"""Rootcheap: the cheapest roads that lead from one place to every other."""

@@ -1,0 +1,59 @@
+import inspect
+import os
+import unittest
+
+from rootcheap import cheapest, maps
+
+FOLDER = os.path.dirname(maps.__file__)
+
+FUNCTIONS = [
+    (maps, "is_tree", ["chart", "roads"]),
+    (maps, "cost_of", ["chart", "roads"]),
+    (cheapest, "cheapest", ["chart"]),
+    (cheapest, "is_shown", ["chart", "whole", "prices"]),
+]
+
+
+def names(function):
+    return list(inspect.signature(function).parameters)
+
+
+class Interface(unittest.TestCase):
+    def test_functions_stand_in_their_files_with_their_arguments(self):
+        for module, name, arguments in FUNCTIONS:
+            function = getattr(module, name)
+            self.assertEqual(function.__module__, module.__name__)
+            self.assertEqual(names(function), arguments, name)
+
+    def test_map_has_its_methods_itself(self):
+        self.assertEqual(maps.Map.__module__, "rootcheap.maps")
+        self.assertEqual(names(maps.Map), ["many", "root", "roads"])
+        for method in ["size", "begin", "roads"]:
+            self.assertIn(method, vars(maps.Map))
+            self.assertEqual(names(vars(maps.Map)[method]), ["self"])
+
+    def test_arguments_by_name(self):
+        chart = maps.Map(many=2, root=1, roads=[(1, 0, 4)])
+        self.assertTrue(maps.is_tree(chart=chart, roads=[0]))
+        self.assertEqual(maps.cost_of(chart=chart, roads=[0]), 4)
+        self.assertEqual(cheapest.cheapest(chart=chart), ([0], 4, [((0,), 4)]))
+        self.assertTrue(cheapest.is_shown(chart=chart, whole=4, prices=[((0,), 4)]))
+
+    def test_files_keep_the_plain_limits(self):
+        for name in sorted(os.listdir(FOLDER)):
+            if name == "__pycache__":
+                continue
+            self.assertRegex(name, r"^[a-z0-9_]+\.py$")
+            with open(os.path.join(FOLDER, name), encoding="utf-8") as source:
+                text = source.read()
+            self.assertRegex(text, r"^[ -~\n]*\Z", name)
+            rows = text.split("\n")
+            self.assertLess(len(rows), 400, name)
+            self.assertLessEqual(max(len(row) for row in rows), 120, name)
+            for row in rows:
+                if "import " in row:
+                    self.assertRegex(row, r"^from rootcheap\.[a-z_]+ import \w+(, \w+)*$")
+
+
+if __name__ == "__main__":
+    unittest.main()
