@@ -12,13 +12,12 @@ don't go beyond it by their first numbers either.
 """
 
 from rootcheap.errors import NoTree
-from rootcheap.maps import MOST_ROADS, left_out
+from rootcheap.maps import MOST_ROADS, left_out, roads_by_number
 
 
 def cheapest(chart):
     """The first cheapest tree, what it costs, and prices that show it."""
-    roads = dict(enumerate(chart.roads()))
-    return cheapest_among(chart.size(), chart.begin(), roads)
+    return cheapest_among(chart.size(), chart.begin(), roads_by_number(chart))
 
 
 def cheapest_among(many, root, roads):

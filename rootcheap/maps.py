@@ -29,6 +29,11 @@ class Map:
         return list(self._roads)
 
 
+def roads_by_number(chart):
+    """The roads of a map as a dict, numbers rising."""
+    return dict(enumerate(chart.roads()))
+
+
 def check_map(many, root, roads):
     """Refuse with the first thing by which this cannot be a map."""
     if not 1 <= many <= MOST_PLACES:

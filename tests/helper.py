@@ -73,6 +73,60 @@ def cost_by_hand(chart, tree):
     return sum(chart.roads()[road][2] for road in tree)
 
 
+def in_order(chart, trees):
+    """Trees with their costs, as `best` is to tell them."""
+    return [(tree, cost) for cost, tree in sorted((cost_by_hand(chart, tree), tree) for tree in trees)]
+
+
+def trees_by_lists(chart):
+    """Each tree of a map of any size, in the order of the lists, one at a time.
+
+    Roads are taken or left in their order; what is left open must still reach all.
+    """
+    many, root, roads = chart.size(), chart.begin(), chart.roads()
+
+    def trees(taken, at, open_roads):
+        if len(reached(many, root, [roads[road] for road in open_roads])) < many:
+            return
+        if len(taken) == many - 1:
+            yield list(taken)
+            return
+        later = [road for road in open_roads if road >= at and road not in taken]
+        for road in later[:1]:
+            fewer = [row for row in open_roads if row == road or roads[row][1] != roads[road][1]]
+            yield from trees(taken + [road], road + 1, fewer)
+            yield from trees(taken, road + 1, [row for row in open_roads if row != road])
+
+    yield from trees([], 0, [road for road in range(len(roads)) if roads[road][1] != root])
+
+
+def onward_map(seed, places, roads, costs):
+    """A map whose roads all lead to greater places, so that any choice is a tree."""
+    numbers = Numbers(seed)
+    found = [(numbers.below(goal), goal, numbers.below(costs)) for goal in range(1, places)]
+    while len(found) < roads:
+        goal = 1 + numbers.below(places - 1)
+        found.insert(numbers.below(len(found) + 1), (numbers.below(goal), goal, numbers.below(costs)))
+    return Map(places, 0, found)
+
+
+def best_by_choices(chart, many):
+    """The first so many trees of an onward map, a place at a time."""
+    roads = chart.roads()
+    found = [(0, [])]
+    for place in range(1, chart.size()):
+        choices = [(road, row[2]) for road, row in enumerate(roads) if row[1] == place]
+        found = sorted((cost + more, sorted(tree + [road])) for cost, tree in found for road, more in choices)[:many]
+    return [(tree, cost) for cost, tree in found]
+
+
+def with_cost(chart, road, cost):
+    """The same map, but for what one road costs."""
+    roads = chart.roads()
+    roads[road] = (roads[road][0], roads[road][1], cost)
+    return Map(chart.size(), chart.begin(), roads)
+
+
 def first_by_trial(chart):
     """The first cheapest tree of a map of any size, a road at a time.
 

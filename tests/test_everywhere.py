@@ -2,9 +2,12 @@ import copy
 import unittest
 
 from helper import whole_map
+from rootcheap.best import best, margin
+from rootcheap.changes import changes, halfway
 from rootcheap.cheapest import cheapest, is_shown
-from rootcheap.errors import BadMap, NoTree
+from rootcheap.errors import BadMap, NoRoad, NoTree
 from rootcheap.maps import Map, cost_of, is_tree
+from rootcheap.needs import always, roots
 
 ROADS = [(0, 1, 5), (0, 2, 9), (1, 2, 3), (2, 1, 1), (2, 0, 0)]
 
@@ -28,6 +31,86 @@ class Everywhere(unittest.TestCase):
             kept = copy.deepcopy(prices)
             is_shown(chart, 3, prices)
             self.assertEqual(prices, kept)
+
+    def test_trees_handed_in_stay_as_they_were(self):
+        chart = Map(3, 0, list(ROADS))
+        for asked in [changes, halfway]:
+            one, other = [2, 0], [3, 1]
+            asked(chart, one, other)
+            self.assertEqual((one, other), ([2, 0], [3, 1]))
+            asked(chart, one, one)
+            self.assertEqual(one, [2, 0])
+            for bad in [[2, 2], [3, -1], [4, 2, 0]]:
+                kept = list(bad)
+                with self.assertRaises(NoRoad):
+                    asked(chart, one, bad)
+                with self.assertRaises(NoRoad):
+                    asked(chart, bad, one)
+                self.assertEqual((one, bad), ([2, 0], kept))
+
+    def test_the_map_stays_whatever_is_asked(self):
+        roads = list(ROADS)
+        chart = Map(3, 0, roads)
+        for asked in self.all_asked():
+            asked(chart)
+            self.assertEqual((chart.size(), chart.begin(), chart.roads(), roads), (3, 0, ROADS, ROADS))
+
+    def all_asked(self):
+        return [
+            lambda chart: cheapest(chart),
+            lambda chart: best(chart, 1),
+            lambda chart: best(chart, 9),
+            lambda chart: always(chart),
+            lambda chart: roots(chart),
+            lambda chart: [margin(chart, road) for road in range(len(ROADS))],
+            lambda chart: changes(chart, [0, 2], [3, 1]),
+            lambda chart: halfway(chart, [0, 2], [3, 1]),
+            lambda chart: halfway(chart, [0, 2], [0, 2]),
+        ]
+
+    def spoil(self, answer):
+        """Change all that can be changed of an answer."""
+        if isinstance(answer, (list, tuple)):
+            for part in answer:
+                self.spoil(part)
+        if isinstance(answer, list):
+            answer.reverse()
+            answer.append(77)
+
+    def test_whatever_is_given_back_may_be_changed(self):
+        chart = Map(3, 0, list(ROADS))
+        kept = [copy.deepcopy(asked(chart)) for asked in self.all_asked()]
+        for asked in self.all_asked():
+            self.spoil(asked(chart))
+            self.assertEqual([again(chart) for again in self.all_asked()], kept)
+        for asked in self.all_asked():
+            answer = asked(chart)
+            if isinstance(answer, list):
+                answer.clear()
+            self.assertEqual([again(chart) for again in self.all_asked()], kept)
+
+    def test_the_lists_of_one_answer_are_not_the_same(self):
+        chart = Map(3, 0, list(ROADS))
+        for trees in [[tree for tree, _ in best(chart, 9)], halfway(chart, [0, 2], [3, 1]), list(always(chart))]:
+            kept = copy.deepcopy(trees)
+            trees[0].append(77)
+            self.assertEqual(trees[1:], kept[1:])
+
+    def test_a_tree_given_back_is_not_the_one_handed_in(self):
+        chart = Map(3, 0, list(ROADS))
+        for one, other in [([0, 2], [1, 3]), ([0, 2], [0, 2])]:
+            kept = (list(one), list(other))
+            for tree in halfway(chart, one, other):
+                tree.append(77)
+            self.assertEqual((one, other), kept)
+
+    def test_the_places_of_any_refusal_may_be_changed(self):
+        chart = Map(4, 1, [(1, 3, 2)])
+        for asked in [cheapest, always, lambda of: best(of, 2), lambda of: margin(of, 0)] * 2:
+            with self.assertRaises(NoTree) as caught:
+                asked(chart)
+            self.assertEqual(caught.exception.left, [0, 2])
+            caught.exception.left.clear()
 
     def test_a_refused_list_stays_too(self):
         roads = [(1, 0, 5), (0, 0, 5), (0, 1, -1)]

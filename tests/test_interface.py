@@ -2,7 +2,7 @@ import inspect
 import os
 import unittest
 
-from rootcheap import cheapest, maps
+from rootcheap import best, changes, cheapest, maps, needs
 
 FOLDER = os.path.dirname(maps.__file__)
 
@@ -11,6 +11,12 @@ FUNCTIONS = [
     (maps, "cost_of", ["chart", "roads"]),
     (cheapest, "cheapest", ["chart"]),
     (cheapest, "is_shown", ["chart", "whole", "prices"]),
+    (best, "best", ["chart", "many"]),
+    (best, "margin", ["chart", "road"]),
+    (needs, "always", ["chart"]),
+    (needs, "roots", ["chart"]),
+    (changes, "changes", ["chart", "one", "other"]),
+    (changes, "halfway", ["chart", "one", "other"]),
 ]
 
 
@@ -38,6 +44,12 @@ class Interface(unittest.TestCase):
         self.assertEqual(maps.cost_of(chart=chart, roads=[0]), 4)
         self.assertEqual(cheapest.cheapest(chart=chart), ([0], 4, [((0,), 4)]))
         self.assertTrue(cheapest.is_shown(chart=chart, whole=4, prices=[((0,), 4)]))
+        self.assertEqual(best.best(chart=chart, many=3), [([0], 4)])
+        self.assertEqual(best.margin(chart=chart, road=0), ("in", None))
+        self.assertEqual(needs.always(chart=chart), ([0], [], []))
+        self.assertEqual(needs.roots(chart=chart), [None, 4])
+        self.assertEqual(changes.changes(chart=chart, one=[0], other=[0]), [])
+        self.assertEqual(changes.halfway(chart=chart, one=[0], other=[0]), [[0]])
 
     def test_files_keep_the_plain_limits(self):
         for name in sorted(os.listdir(FOLDER)):
@@ -52,7 +64,7 @@ class Interface(unittest.TestCase):
             self.assertLessEqual(max(len(row) for row in rows), 120, name)
             for row in rows:
                 if "import " in row:
-                    self.assertRegex(row, r"^from rootcheap\.[a-z_]+ import \w+(, \w+)*$")
+                    self.assertRegex(row, r"^from (rootcheap\.[a-z_]+|heapq) import \w+(, \w+)*$")
 
 
 if __name__ == "__main__":
