@@ -45,8 +45,13 @@ def check_map(many, root, roads):
     for at, (begin, goal, cost) in enumerate(roads):
         if begin == goal or not 0 <= begin < many or not 0 <= goal < many:
             raise BadMap(at, "place")
-        if not 0 <= cost <= MOST_COST:
-            raise BadMap(at, "cost")
+        check_cost(at, cost)
+
+
+def check_cost(road, cost):
+    """Refuse a cost that no road can have."""
+    if not 0 <= cost <= MOST_COST:
+        raise BadMap(road, "cost")
 
 
 def left_out(many, root, roads):

@@ -5,9 +5,12 @@ from helper import whole_map
 from rootcheap.best import best, margin
 from rootcheap.changes import changes, halfway
 from rootcheap.cheapest import cheapest, is_shown
+from rootcheap.counting import how_many
+from rootcheap.desks import Desk
 from rootcheap.errors import BadMap, NoRoad, NoTree
 from rootcheap.maps import Map, cost_of, is_tree
 from rootcheap.needs import always, roots
+from rootcheap.notes import read, written
 
 ROADS = [(0, 1, 5), (0, 2, 9), (1, 2, 3), (2, 1, 1), (2, 0, 0)]
 
@@ -66,7 +69,18 @@ class Everywhere(unittest.TestCase):
             lambda chart: changes(chart, [0, 2], [3, 1]),
             lambda chart: halfway(chart, [0, 2], [3, 1]),
             lambda chart: halfway(chart, [0, 2], [0, 2]),
+            lambda chart: how_many(chart),
+            lambda chart: written(chart),
+            lambda chart: read(written(chart)).roads(),
+            lambda chart: Desk(chart).now(),
+            lambda chart: Desk(chart).standing(),
+            lambda chart: Desk(chart).cost(0, 8),
+            lambda chart: Desk(chart).gone(2),
+            lambda chart: self.gone_and_back(Desk(chart)),
         ]
+
+    def gone_and_back(self, desk):
+        return [desk.gone(3), desk.cost(0, 9), desk.back(3, 0), desk.now(), desk.standing()]
 
     def spoil(self, answer):
         """Change all that can be changed of an answer."""
@@ -76,6 +90,9 @@ class Everywhere(unittest.TestCase):
         if isinstance(answer, list):
             answer.reverse()
             answer.append(77)
+        if isinstance(answer, dict):
+            answer[0] = 77
+            answer[99] = 77
 
     def test_whatever_is_given_back_may_be_changed(self):
         chart = Map(3, 0, list(ROADS))
@@ -106,7 +123,7 @@ class Everywhere(unittest.TestCase):
 
     def test_the_places_of_any_refusal_may_be_changed(self):
         chart = Map(4, 1, [(1, 3, 2)])
-        for asked in [cheapest, always, lambda of: best(of, 2), lambda of: margin(of, 0)] * 2:
+        for asked in [cheapest, always, lambda of: best(of, 2), lambda of: margin(of, 0), Desk] * 2:
             with self.assertRaises(NoTree) as caught:
                 asked(chart)
             self.assertEqual(caught.exception.left, [0, 2])

@@ -2,7 +2,7 @@ import inspect
 import os
 import unittest
 
-from rootcheap import best, changes, cheapest, maps, needs
+from rootcheap import best, changes, cheapest, counting, desks, maps, needs, notes
 
 FOLDER = os.path.dirname(maps.__file__)
 
@@ -17,6 +17,17 @@ FUNCTIONS = [
     (needs, "roots", ["chart"]),
     (changes, "changes", ["chart", "one", "other"]),
     (changes, "halfway", ["chart", "one", "other"]),
+    (counting, "how_many", ["chart"]),
+    (notes, "written", ["chart"]),
+    (notes, "read", ["text"]),
+]
+
+DESK_METHODS = [
+    ("cost", ["self", "road", "cost"]),
+    ("gone", ["self", "road"]),
+    ("back", ["self", "road", "cost"]),
+    ("now", ["self"]),
+    ("standing", ["self"]),
 ]
 
 
@@ -38,6 +49,13 @@ class Interface(unittest.TestCase):
             self.assertIn(method, vars(maps.Map))
             self.assertEqual(names(vars(maps.Map)[method]), ["self"])
 
+    def test_desk_has_its_methods_itself(self):
+        self.assertEqual(desks.Desk.__module__, "rootcheap.desks")
+        self.assertEqual(names(desks.Desk), ["chart"])
+        for method, arguments in DESK_METHODS:
+            self.assertIn(method, vars(desks.Desk))
+            self.assertEqual(names(vars(desks.Desk)[method]), arguments)
+
     def test_arguments_by_name(self):
         chart = maps.Map(many=2, root=1, roads=[(1, 0, 4)])
         self.assertTrue(maps.is_tree(chart=chart, roads=[0]))
@@ -50,6 +68,16 @@ class Interface(unittest.TestCase):
         self.assertEqual(needs.roots(chart=chart), [None, 4])
         self.assertEqual(changes.changes(chart=chart, one=[0], other=[0]), [])
         self.assertEqual(changes.halfway(chart=chart, one=[0], other=[0]), [[0]])
+        self.assertEqual(counting.how_many(chart=chart), 1)
+        self.assertEqual(notes.written(chart=notes.read(text="map 2 1\nroad 1 0 4")), "map 2 1\nroad 1 0 4")
+
+    def test_arguments_of_a_desk_by_name(self):
+        desk = desks.Desk(chart=maps.Map(2, 1, [(1, 0, 4), (1, 0, 4)]))
+        self.assertEqual(desk.cost(road=0, cost=5), ([0], [1]))
+        self.assertEqual(desk.gone(road=1), ([1], [0]))
+        self.assertEqual(desk.back(road=1, cost=4), ([0], [1]))
+        self.assertEqual(desk.now(), ([1], 4, [((0,), 4)]))
+        self.assertEqual(desk.standing(), {0: 5, 1: 4})
 
     def test_files_keep_the_plain_limits(self):
         for name in sorted(os.listdir(FOLDER)):
